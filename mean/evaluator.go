@@ -2,6 +2,7 @@ package mean
 
 import (
 	"drawloom/api"
+	"drawloom/cells"
 	"drawloom/num"
 )
 
@@ -12,13 +13,7 @@ type evaluator struct {
 	spent  bool
 	world  *World
 	thread *thread
-	loads  []place // the cells that were loaded
-}
-
-// place is a cell of a space.
-type place struct {
-	space int
-	index int32
+	loads  []api.Access
 }
 
 // begin counts a statement, and evaluates its expressions. The words have no meaning if the steps are spent.
@@ -53,7 +48,7 @@ func (v *evaluator) word(x *expr, vars []int32) int32 {
 		word, _ := num.Binary(x.op, a, b)
 		return word
 	case api.ELoad:
-		return v.load(place{x.at, v.word(&x.kids[0], vars)})
+		return v.load(x.at, v.word(&x.kids[0], vars))
 	}
 	args := make([]int32, len(x.kids))
 	for i := range x.kids {
@@ -63,13 +58,13 @@ func (v *evaluator) word(x *expr, vars []int32) int32 {
 }
 
 // load returns the word of a cell.
-func (v *evaluator) load(p place) int32 {
-	c := v.world.cell(v.thread, p)
-	if c == nil {
-		return 0
+func (v *evaluator) load(space int, index int32) int32 {
+	a := v.thread.access(space, index, cells.Load)
+	word, ok := v.world.cells.Peek(a)
+	if ok {
+		v.loads = append(v.loads, a)
 	}
-	v.loads = append(v.loads, p)
-	return c.word
+	return word
 }
 
 // call executes a function.

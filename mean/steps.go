@@ -2,6 +2,7 @@ package mean
 
 import (
 	"drawloom/api"
+	"drawloom/cells"
 	"drawloom/num"
 )
 
@@ -15,8 +16,8 @@ func (w *World) step(t *thread) {
 		w.spent = true
 		return
 	}
-	for _, p := range v.loads {
-		w.access(t, p, load)
+	for _, a := range v.loads {
+		w.cells.Access(a)
 	}
 	w.effect(t, s, words)
 }
@@ -27,12 +28,12 @@ func (w *World) effect(t *thread, s *stmt, words [2]int32) {
 	case api.SLet, api.SSet:
 		t.vars[s.at] = words[0]
 	case api.SPut:
-		if c := w.access(t, place{s.at, words[0]}, store); c != nil {
-			c.word = words[1]
+		if word := w.cells.Access(t.access(s.at, words[0], cells.Store)); word != nil {
+			*word = words[1]
 		}
 	case api.SAtomic:
-		if c := w.access(t, place{s.at, words[0]}, atomic+s.op); c != nil {
-			c.word, _ = num.Binary(s.op, c.word, words[1])
+		if word := w.cells.Access(t.access(s.at, words[0], cells.Atomic+s.op)); word != nil {
+			*word, _ = num.Binary(s.op, *word, words[1])
 		}
 	case api.SBarrier, api.SCollect:
 		t.word, t.waits = words[0], true
@@ -40,19 +41,6 @@ func (w *World) effect(t *thread, s *stmt, words [2]int32) {
 		return
 	}
 	t.at = s.next(words[0])
-}
-
-// access takes note of an access, and returns its cell; it is none, of no cell, if it is outside of its array.
-func (w *World) access(t *thread, p place, kind int) *cell {
-	c := w.cell(t, p)
-	if c == nil {
-		return nil
-	}
-	b := api.Access{Space: p.space, Block: t.bid, Cell: int(p.index), Thread: t.tid, Kind: kind}
-	if a, found := c.note(api.Event{Access: b, Phase: w.blocks[t.bid].phase}); found {
-		w.races = append(w.races, api.Race{A: a, B: b})
-	}
-	return c
 }
 
 // meet lets the threads of a block go on if all of them wait at the same statement.
@@ -65,7 +53,7 @@ func (w *World) meet(bid int, at frame) {
 		}
 		given = append(given, t.word)
 	}
-	w.blocks[bid].phase++
+	w.cells.Pass(bid)
 	w.pass(team, &w.kernel.stmts[at.at], given)
 }
 

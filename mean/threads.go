@@ -1,6 +1,10 @@
 package mean
 
-import "slices"
+import (
+	"slices"
+
+	"drawloom/api"
+)
 
 // frame is where a thread stands: before a statement, or waiting at it. Threads wait at the same statement if their frames are equal.
 type frame struct {
@@ -25,13 +29,7 @@ func (t thread) clone() thread {
 	return t
 }
 
-// block is what the threads of a block share. They pass each barrier together, so that all of them are in the same phase.
-type block struct {
-	phase  int
-	arrays [][]cell
-}
-
-func (b block) clone() block {
-	b.arrays = copied(b.arrays, cloneCells)
-	return b
+// access returns an access of the thread.
+func (t *thread) access(space int, index int32, kind int) api.Access {
+	return api.Access{Space: space, Block: t.bid, Cell: int(index), Thread: t.tid, Kind: kind}
 }

@@ -1,14 +1,16 @@
 package mean
 
-import "drawloom/api"
+import (
+	"drawloom/api"
+	"drawloom/cells"
+)
 
 // newWorld returns a launch of a kernel, which it fits.
 func newWorld(p api.Program, k api.Kernel, l api.Launch, m api.Mem) *World {
 	funcs, numbers := encodeFuncs(p.Funcs)
 	kernel, args := encodeKernel(k, l.Args, numbers)
-	w := &World{code: code{funcs, kernel}, buffers: copied(m, newCells)}
+	w := &World{code: code{funcs, kernel}, grid: l.Grid, cells: cells.New(m, k.Shared, l.Grid)}
 	for bid := range l.Grid {
-		w.blocks = append(w.blocks, newBlock(k))
 		for tid := range l.Block {
 			vars := make([]int32, kernel.vars)
 			copy(vars, args)
@@ -18,13 +20,9 @@ func newWorld(p api.Program, k api.Kernel, l api.Launch, m api.Mem) *World {
 	return w
 }
 
-func newBlock(k api.Kernel) block {
-	return block{arrays: copied(k.Shared, func(a api.Array) []cell { return make([]cell, a.Size) })}
-}
-
 // team returns the threads of a block.
 func (w *World) team(bid int) []thread {
-	size := len(w.threads) / len(w.blocks)
+	size := len(w.threads) / w.grid
 	return w.threads[bid*size : (bid+1)*size]
 }
 
@@ -38,21 +36,7 @@ func (w *World) special(t *thread, op int) int32 {
 	case api.Dim:
 		return int32(len(w.team(t.bid)))
 	}
-	return int32(len(w.blocks))
-}
-
-// cell returns a cell as a thread sees it, or nil if it is outside of its array.
-func (w *World) cell(t *thread, p place) *cell {
-	var cells []cell
-	if p.space >= 0 {
-		cells = w.buffers[p.space]
-	} else {
-		cells = w.blocks[t.bid].arrays[-1-p.space]
-	}
-	if p.index < 0 || int(p.index) >= len(cells) {
-		return nil
-	}
-	return &cells[p.index]
+	return int32(w.grid)
 }
 
 // firstReady returns the number of the first ready thread, or -1 if there is none.

@@ -1,16 +1,9 @@
-package mean
+package cells
 
 import (
 	"slices"
 
 	"drawloom/api"
-)
-
-// What an access does to a cell: api.Access numbers it. An atomic operation is atomic + its operator.
-const (
-	load = iota
-	store
-	atomic
 )
 
 // cell is a cell with the accesses to it that may still be in a race with a later one, in their order; none after its race was reported.
@@ -22,18 +15,27 @@ type cell struct {
 
 // newCells returns cells with some words.
 func newCells(words []int32) []cell {
-	return copied(words, func(word int32) cell { return cell{word: word} })
+	cells := make([]cell, len(words))
+	for i, word := range words {
+		cells[i].word = word
+	}
+	return cells
 }
 
 func words(cells []cell) []int32 {
-	return copied(cells, func(c cell) int32 { return c.word })
+	l := make([]int32, len(cells))
+	for i := range cells {
+		l[i] = cells[i].word
+	}
+	return l
 }
 
-func cloneCells(cells []cell) []cell { return copied(cells, cell.clone) }
-
-func (c cell) clone() cell {
-	c.seen = slices.Clone(c.seen)
-	return c
+func cloneCells(cells []cell) []cell {
+	l := slices.Clone(cells)
+	for i := range l {
+		l[i].seen = slices.Clone(l[i].seen)
+	}
+	return l
 }
 
 // note takes note of an access. It returns the earliest access with which it is in a race, and whether there is one that is to be reported.
@@ -101,4 +103,4 @@ func races(a, b api.Event) bool {
 }
 
 // conflict reports whether accesses of two kinds conflict.
-func conflict(a, b int) bool { return a != b || a == store }
+func conflict(a, b int) bool { return a != b || a == Store }
