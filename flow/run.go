@@ -5,6 +5,7 @@ import (
 
 	"drawloom/api"
 	"drawloom/cells"
+	"drawloom/instr"
 )
 
 // node is a node of a flow graph with its IPhis apart from its other instructions.
@@ -57,7 +58,7 @@ func newNodes(nodes []api.Node) []node {
 	before := predecessors(nodes)
 	var made []node
 	for i, n := range nodes {
-		phis := countPhis(n.Instrs)
+		phis := instr.Phis(n.Instrs)
 		made = append(made, node{
 			phis:   n.Instrs[:phis],
 			instrs: n.Instrs[phis:],

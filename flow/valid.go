@@ -5,6 +5,7 @@ import (
 
 	"drawloom/api"
 	"drawloom/check"
+	"drawloom/instr"
 	"drawloom/num"
 )
 
@@ -17,28 +18,26 @@ const (
 	barrier // the number of a barrier
 )
 
-// shape is what a kind of instruction has: operators from 0 to ops - 1, or those that fold; registers D, A and B; an Imm; and Args.
+// shape is what a kind of instruction has besides registers: operators from 0 to ops - 1, or those that fold; and an Imm.
 type shape struct {
-	ops     int
-	folds   bool
-	d, a, b bool
-	imm     int
-	args    bool
+	ops   int
+	folds bool
+	imm   int
 }
 
 var shapes = [api.IKinds]shape{
-	api.IConst:   {ops: 1, d: true, imm: anyWord},
-	api.ICopy:    {ops: 1, d: true, a: true},
-	api.IUnary:   {ops: api.Unaries, d: true, a: true},
-	api.IBinary:  {ops: api.Binaries, d: true, a: true, b: true},
-	api.ISpecial: {ops: api.Specials, d: true},
-	api.IParam:   {ops: 1, d: true, imm: integer},
-	api.ILoad:    {ops: 1, d: true, a: true, imm: array},
-	api.IStore:   {ops: 1, a: true, b: true, imm: array},
-	api.IAtomic:  {folds: true, a: true, b: true, imm: array},
+	api.IConst:   {ops: 1, imm: anyWord},
+	api.ICopy:    {ops: 1},
+	api.IUnary:   {ops: api.Unaries},
+	api.IBinary:  {ops: api.Binaries},
+	api.ISpecial: {ops: api.Specials},
+	api.IParam:   {ops: 1, imm: integer},
+	api.ILoad:    {ops: 1, imm: array},
+	api.IStore:   {ops: 1, imm: array},
+	api.IAtomic:  {folds: true, imm: array},
 	api.IBarrier: {ops: 1, imm: barrier},
-	api.ICollect: {folds: true, d: true, a: true, imm: barrier},
-	api.IPhi:     {ops: 1, d: true, args: true},
+	api.ICollect: {folds: true, imm: barrier},
+	api.IPhi:     {ops: 1},
 }
 
 // head returns a program with the kernel of a flow graph, without its statements: it is sound if the head of the flow graph is valid, and the same launches fit it.
@@ -106,11 +105,18 @@ func fitsInstr(f api.Flow, x api.Instr, predecessors int) bool {
 		return false
 	}
 	s := shapes[x.Kind]
-	if !s.args {
+	return fitsOp(x.Op, s) && fitsImm(f, int(x.Imm), s.imm) && fitsRegisters(x, f.Regs, predecessors)
+}
+
+// fitsRegisters reports whether an instruction of a node with some predecessors has the registers that its kind has.
+func fitsRegisters(x api.Instr, registers, predecessors int) bool {
+	has := instr.Of(x.Kind)
+	if !has.Args {
 		predecessors = 0
 	}
-	return fitsOp(x.Op, s) && fitsRegister(x.D, s.d, f.Regs) && fitsRegister(x.A, s.a, f.Regs) && fitsRegister(x.B, s.b, f.Regs) &&
-		fitsImm(f, int(x.Imm), s.imm) && len(x.Args) == predecessors && all(x.Args, func(arg int) bool { return fitsRegister(arg, true, f.Regs) })
+	isOne := func(r int) bool { return fitsRegister(r, true, registers) }
+	return fitsRegister(x.D, has.D, registers) && fitsRegister(x.A, has.A, registers) && fitsRegister(x.B, has.B, registers) &&
+		len(x.Args) == predecessors && all(x.Args, isOne)
 }
 
 func fitsOp(op int, s shape) bool {
@@ -144,7 +150,7 @@ func fitsImm(f api.Flow, imm, what int) bool {
 
 // validPhis reports whether the IPhis of a node stand where they may, and have different D.
 func validPhis(instrs []api.Instr, entry bool) bool {
-	phis := countPhis(instrs)
+	phis := instr.Phis(instrs)
 	if entry && phis > 0 || slices.ContainsFunc(instrs[phis:], isPhi) {
 		return false
 	}
@@ -153,15 +159,6 @@ func validPhis(instrs []api.Instr, entry bool) bool {
 		assigned[x.D] = true
 	}
 	return len(assigned) == phis
-}
-
-// countPhis returns how many IPhis there are before all other instructions.
-func countPhis(instrs []api.Instr) int {
-	at := slices.IndexFunc(instrs, func(x api.Instr) bool { return !isPhi(x) })
-	if at < 0 {
-		return len(instrs)
-	}
-	return at
 }
 
 func isPhi(x api.Instr) bool { return x.Kind == api.IPhi }
