@@ -8,7 +8,7 @@ import (
 	"drawloom/instr"
 )
 
-// initial is the name of all registers, where one is used, that have not been assigned yet.
+// initial is the name that every register has before it is assigned, if one is used there.
 const initial = 0
 
 // builder builds a flow graph in form from a valid one without IPhis. A register of the given one has a name for each instruction, or IPhi, that assigns it: a register of the one that is built.
@@ -16,7 +16,7 @@ type builder struct {
 	tree
 	f     api.Flow
 	phis  [][]int // the registers for which a node gets IPhis, rising
-	zero  bool    // whether a register is used that has not been assigned
+	zero  bool    // whether a register is used before it is assigned
 	nodes []api.Node
 	names map[int][]int // those that a register has got in the node where the walk is, and in those that dominate it
 	regs  int           // how many names there are
